@@ -1,0 +1,1 @@
+"""Linewise: a small language of lines, its compiler, and the machine for its code."""
