@@ -70,6 +70,14 @@ def is_number(word):
     return 1 <= len(digits) <= MOST_DIGITS and all([48 <= digit <= 57 for digit in digits])
 
 
+def number_value(word):
+    value = 0
+    for digit in word:
+        if digit != MINUS:
+            value = value * 10 + digit - 48
+    return -value if word[0] == MINUS else value
+
+
 # -1 if no expression begins with the word.
 def operands_wanted(word):
     if word in OPERATIONS:

@@ -2,23 +2,15 @@
 
 import unittest
 
+from helpers import text_of, text_without_last_feed
 from linewords.texts import check
-
-
-def lines(*rows):
-    """The rows as a text's bytes, each with its line feed; a row's signs stand for the bytes 0 to 255."""
-    return [ord(sign) for row in rows for sign in row + "\n"]
-
-
-def without_last_feed(*rows):
-    return lines(*rows)[:-1]
 
 
 class CheckCase(unittest.TestCase):
     def answers(self, number, *rows):
-        self.assertEqual(check(lines(*rows)), [number], rows)
+        self.assertEqual(check(text_of(*rows)), [number], rows)
         if rows[-1]:
-            self.assertEqual(check(without_last_feed(*rows)), [number], rows)
+            self.assertEqual(check(text_without_last_feed(*rows)), [number], rows)
 
     def right(self, *rows):
         self.answers(0, *rows)
@@ -64,17 +56,17 @@ class Lengths(CheckCase):
         self.assertEqual(check([35] * 16384), [0])
         self.assertEqual(check([0] * 16384), [1])
         self.assertEqual(check([10] * 16383 + [0]), [16384])
-        self.assertEqual(check([10] * 16377 + lines("if 1 ")[:-1] + [10, 35]), [16380])
+        self.assertEqual(check([10] * 16377 + text_of("if 1 ")[:-1] + [10, 35]), [16380])
 
     def test_too_long(self):
         for byte in (10, 32, 35, 97, 0, 255):
             for length in (16385, 16386, 16500):
                 self.assertEqual(check([byte] * length), [-1])
-        self.assertEqual(check(lines("end") + [10] * 16381), [-1])
+        self.assertEqual(check(text_of("end") + [10] * 16381), [-1])
 
     def test_wrong_line_in_a_longest_text(self):
-        text = lines("if 1") * 40 + lines("end") * 40
-        padded = text + [10] * (16384 - len(text) - 4) + lines("end")
+        text = text_of("if 1") * 40 + text_of("end") * 40
+        padded = text + [10] * (16384 - len(text) - 4) + text_of("end")
         self.assertEqual(len(padded), 16384)
         self.assertEqual(check(padded), [16384 - len(text) - 4 + 81])
 
@@ -88,16 +80,16 @@ class Lines(CheckCase):
 
     def test_lines_are_counted(self):
         self.answers(4, "", "# note", " ", "end", "end")
-        self.assertEqual(check(lines("", "", "x")), [3])
+        self.assertEqual(check(text_of("", "", "x")), [3])
         self.assertEqual(check([10, 10, 10]), [0])
 
     def test_last_line_feed(self):
-        self.assertEqual(check(lines("if 1")), [2])
-        self.assertEqual(check(without_last_feed("if 1")), [2])
-        self.assertEqual(check(lines("if 1") + [10]), [3])
-        self.assertEqual(check(lines("if 1") + [32]), [3])
-        self.assertEqual(check(lines("if 1") + [35]), [3])
-        self.assertEqual(check(lines("if 1", "end") + [32]), [0])
+        self.assertEqual(check(text_of("if 1")), [2])
+        self.assertEqual(check(text_without_last_feed("if 1")), [2])
+        self.assertEqual(check(text_of("if 1") + [10]), [3])
+        self.assertEqual(check(text_of("if 1") + [32]), [3])
+        self.assertEqual(check(text_of("if 1") + [35]), [3])
+        self.assertEqual(check(text_of("if 1", "end") + [32]), [0])
 
     def test_blanks(self):
         self.each_right("  put 1", "put 1  ", "\tput\t1\t", "put 1\r", "\rput\r1", " \t\r put \r\t + \t 1\r2 \r")

@@ -4,6 +4,7 @@ import random
 import re
 import unittest
 
+from helpers import Maker
 from linewords.texts import check
 
 NUMBER = re.compile(rb"-?[0-9]{1,18}\Z")
@@ -91,86 +92,6 @@ def reference(text):
     wrong = [number for number, words in enumerate(rows, 1) if misspelt(words, told)]
     misplaced = first_misplaced(rows)
     return [min(wrong + ([misplaced] if misplaced else []), default=0)]
-
-
-class Maker:
-    """Makes texts that are mostly right, so that the few wrong lines stand anywhere."""
-
-    def __init__(self, seed):
-        self.random = random.Random(seed)
-
-    def expression(self, depth=0):
-        pick = self.random.random()
-        if depth > 5 or pick < 0.55:
-            return self.random.choice(["1", "-5", "0", "a", "b", "z", "9" * 18, "-" + "9" * 18])
-        if pick < 0.65:
-            return "! " + self.expression(depth + 1)
-        sign = self.random.choice("+-*/%<=")
-        return f"{sign} {self.expression(depth + 1)} {self.expression(depth + 1)}"
-
-    def plain(self, procedures):
-        pick = self.random.choice(["set", "get", "put", "do", "stop", "", "#"])
-        if pick == "set":
-            return f"set {self.random.choice('abz')} {self.expression()}"
-        if pick == "get":
-            return "get " + self.random.choice("abz")
-        if pick == "put":
-            return "put " + self.expression()
-        if pick == "do" and procedures:
-            name = self.random.choice(sorted(procedures))
-            return " ".join(["do", name] + [self.expression() for _ in range(procedures[name])])
-        return "" if pick == "do" else pick
-
-    def block(self, procedures, depth):
-        rows = []
-        for _ in range(self.random.randrange(4)):
-            if depth < 6 and self.random.random() < 0.35:
-                head = self.random.choice(["if", "while"])
-                rows += [f"{head} {self.expression()}"] + self.block(procedures, depth + 1)
-                if head == "if" and self.random.random() < 0.5:
-                    rows += ["else"] + self.block(procedures, depth + 1)
-                rows.append("end")
-            else:
-                rows.append(self.plain(procedures))
-        return rows
-
-    def rows(self):
-        names = self.random.sample("ABCD", self.random.randrange(4))
-        procedures = {name: self.random.randrange(5) for name in names}
-        rows = self.block(procedures, 0)
-        for name in names:
-            parameters = self.random.sample("abcz", procedures[name])
-            rows += [" ".join(["proc", name] + parameters)] + self.block(procedures, 1) + ["end"]
-            rows += self.block(procedures, 0)
-        return rows
-
-    def spoil(self, rows):
-        """Changes a row or a word: takes it out, doubles it, puts another in its place."""
-        at = self.random.randrange(len(rows))
-        pick = self.random.randrange(5)
-        words = rows[at].split()
-        if pick == 0:
-            del rows[at]
-        elif pick == 1:
-            rows.insert(at, self.random.choice(rows))
-        elif pick == 2:
-            rows.insert(at, self.random.choice(["end", "else", "if 1", "while a", "proc A", "proc B a", "do A", "do C 1"]))
-        elif words and pick == 3:
-            del words[self.random.randrange(len(words))]
-            rows[at] = " ".join(words)
-        else:
-            odd = ["1", "a", "A", "-", "!", "+", "%", "--1", "1" * 19, "#", "end", "\x0b", "\xe4", "z " * 57]
-            words.insert(self.random.randrange(len(words) + 1), self.random.choice(odd))
-            rows[at] = " ".join(words)
-
-    def text(self):
-        rows = self.rows()
-        for _ in range(self.random.choice([0, 1, 1, 2, 3])):
-            if rows:
-                self.spoil(rows)
-        blank = self.random.choice([" ", "\t", "\r", " \r", "\t "])
-        text = "\n".join(row.replace(" ", blank) for row in rows)
-        return [ord(sign) for sign in text + self.random.choice(["", "\n", " ", "\n\n"])]
 
 
 class Reference(unittest.TestCase):

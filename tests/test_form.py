@@ -31,6 +31,8 @@ METHODS = (
     "setdefault split splitlines startswith strip update upper values zfill bit_length"
 ).split()
 CHANGING = "append clear extend insert pop remove reverse setdefault update".split()
+WALKING = "list tuple dict sorted sum any all enumerate zip min max".split()
+VALUES_ALLOWED = "count index title find get join lower upper split strip copy add".split()
 TWO_UNDERSCORES = "__init__ __eq__ __repr__ __str__ __len__".split()
 UNUSED = (
     "register mro elements open input version_info with_traceback add_note format format_map attrgetter breakpoint "
@@ -146,7 +148,10 @@ def is_docstring(node):
 def top(tree):
     """L2, L3, L15, L16: the top of a file, and its lists and dicts, which are only read."""
     kept = {}
+    defined = []
     for node in tree.body:
+        if isinstance(node, ast.FunctionDef):
+            defined.append(node.name)
         if isinstance(node, ast.ImportFrom):
             if node.level or not (node.module or "").startswith("linewords.") or node.names[0].name == "*":
                 yield "L2", node.lineno
@@ -155,6 +160,8 @@ def top(tree):
                 if not isinstance(part, (ast.Constant, ast.Tuple, ast.List, ast.Dict, ast.Name, ast.expr_context)):
                     if not isinstance(part, (ast.UnaryOp, ast.USub)):
                         yield "L3", node.lineno
+                if isinstance(part, ast.Name) and part.id not in defined:
+                    yield "L3", node.lineno
                 if part is not node.value and isinstance(part, (ast.List, ast.Dict)):
                     yield "L15", node.lineno
             name = getattr(node.targets[0], "id", "")
@@ -175,6 +182,50 @@ def top(tree):
             yield "L15", node.lineno
 
 
+def local_names(tree):
+    """L15: no parameter and no local is called like a class or an import of its file."""
+    taken = {node.name for node in tree.body if isinstance(node, ast.ClassDef)}
+    for node in tree.body:
+        if isinstance(node, ast.ImportFrom):
+            taken |= {alias.asname or alias.name for alias in node.names}
+    for node in ast.walk(tree):
+        stored = isinstance(node, ast.Name) and isinstance(node.ctx, ast.Store) and node.id in taken
+        if stored or isinstance(node, ast.arg) and node.arg in taken:
+            yield "L15", node.lineno
+
+
+def values_of_objects(tree):
+    """L18, L26: how values are given to objects, and what they and methods are called."""
+    pythons = {name for kind in (str, int, list, dict, set, bytes, tuple) for name in dir(kind)}
+    for node in ast.walk(tree):
+        if isinstance(node, ast.Attribute) and isinstance(node.ctx, ast.Store):
+            if not isinstance(node.value, ast.Name):
+                yield "L18", node.lineno
+            if node.attr in pythons - set(VALUES_ALLOWED):
+                yield "L26", node.lineno
+        if isinstance(node, ast.ClassDef):
+            methods = [part.name for part in node.body if isinstance(part, ast.FunctionDef)]
+            if len(set(methods)) < len(methods):
+                yield "L18", node.lineno
+            if set(methods) & pythons - set(METHODS) - {"add", "discard"} - set(TWO_UNDERSCORES):
+                yield "L26", node.lineno
+
+
+def walked(tree):
+    """L23: what zip and its like make is walked on the spot."""
+    spots = set()
+    for node in ast.walk(tree):
+        if isinstance(node, (ast.For, ast.comprehension)):
+            spots.add(id(node.iter))
+        if isinstance(node, ast.Call) and node.args and getattr(node.func, "id", "") in WALKING:
+            spots.update(id(part) for part in (node.args if node.func.id == "zip" else node.args[:1]))
+    for node in ast.walk(tree):
+        if isinstance(node, ast.Call):
+            name = getattr(node.func, "id", "") or getattr(node.func, "attr", "")
+            if name in ("zip", "enumerate", "reversed", "range", "items", "keys", "values") and id(node) not in spots:
+                yield "L23", node.lineno
+
+
 def handlers(tree):
     """L19: errors are taken by name."""
     for node in ast.walk(tree):
@@ -187,7 +238,7 @@ def faults(source):
     """Each rule that the source breaks, with the line."""
     tree = ast.parse(source)
     found = list(signs_and_sizes(source, tree))
-    for look in (nodes, names, functions_and_classes, top, handlers):
+    for look in (nodes, names, functions_and_classes, top, local_names, values_of_objects, walked, handlers):
         found += look(tree)
     return found
 
@@ -228,6 +279,17 @@ class Form(unittest.TestCase):
             for name in free:
                 del drawn[name]
 
+    def test_no_name_is_a_method_and_a_value(self):
+        methods, values = set(), set()
+        for path in PACKAGE.glob("*.py"):
+            for node in ast.walk(ast.parse(path.read_text(encoding="utf-8"))):
+                if isinstance(node, ast.ClassDef):
+                    methods |= {part.name for part in node.body}
+                if isinstance(node, ast.Attribute) and isinstance(node.ctx, ast.Store):
+                    values.add(node.attr)
+        self.assertTrue(methods and values)
+        self.assertEqual(methods & values, set())
+
     def test_an_imported_name_is_defined_where_it_is_drawn_from(self):
         for path in PACKAGE.glob("*.py"):
             for node in ast.parse(path.read_text(encoding="utf-8")).body:
@@ -242,7 +304,7 @@ class Form(unittest.TestCase):
     def test_the_check_sees_what_breaks_a_rule(self):
         samples = {
             "L2": ("import sys\n", "from os import path\n", "from linewords.texts import *\n", "from .lines import a\n"),
-            "L3": ("print(1)\n", "A = len([1])\n", "for a in [1]:\n    pass\n"),
+            "L3": ("print(1)\n", "A = len([1])\n", "A = 1\nB = A\n", "for a in [1]:\n    pass\n"),
             "L4": ("def f(*a):\n    pass\n", "@g\ndef f():\n    pass\n"),
             "L5": ("class A:\n    b = 1\n",),
             "L6": ("def f():\n    assert 1\n", "def f():\n    a = b = 1\n", "def f():\n    global a\n", "def f():\n    'a'\n"),
@@ -251,14 +313,18 @@ class Form(unittest.TestCase):
             "L10": ("A = 1" + " " * 120 + "\n", "def f():\n" + "    pass\n" * 40),
             "L12": ("def f():\n    _a = 1\n",),
             "L14": ("# \u00e4\n", "if 1:\n\tpass\n"),
-            "L15": ("A = [1]\ndef f():\n    A.append(2)\n", "def f(map):\n    pass\n", "A = [[1]]\n", "A = 1\nA = 2\n"),
+            "L15": ("A = [1]\ndef f():\n    A.append(2)\n", "def f(map):\n    pass\n", "A = [[1]]\n", "A = 1\nA = 2\n",
+                    "class A:\n    def b(self, A):\n        pass\n"),
             "L17": ("# the type of it\n", "def f(a):\n    return a.open()\n", "def f(a):\n    return chr(a)\n"),
+            "L18": ("def f(a):\n    a.b().c = 1\n",),
             "L19": ("def f():\n    try:\n        g()\n    except Exception:\n        pass\n",),
             "L20": ("def f(a):\n    return a is f\n",),
             "L21": ("def f(a: int):\n    pass\n",),
             "L22": ("def f(a):\n    b = len\n",),
+            "L23": ("def f(a):\n    b = range(a)\n", "def f(a):\n    return len(zip(a, a))\n"),
             "L24": ("def f(a):\n    return a in {1, 2}\n",),
             "L25": ("def f(a):\n    a.sort()\n",),
+            "L26": ("def f(a):\n    a.hex = 1\n", "class A:\n    def hex(self):\n        pass\n"),
             "L27": ('A = "%"\n', "def f(a):\n    return 2 ** a\n"),
         }
         for rule, sources in samples.items():

@@ -1,4 +1,4 @@
-"""check: what is handed in stays as it is, nothing is kept, printed, read or imported, nothing nests deep."""
+"""Every call: what is handed in stays as it is, nothing is kept, printed, read or imported, nothing nests deep."""
 
 import builtins
 import contextlib
@@ -7,14 +7,10 @@ import sys
 import unittest
 from unittest import mock
 
-from linewords.texts import check
+from helpers import text_of
+from linewords.texts import check, compile_text
 
-
-def text_of(*rows):
-    return [ord(sign) for row in rows for sign in row + "\n"]
-
-
-SAMPLES = (
+TEXTS = (
     [],
     [10],
     text_of("get a", "while a", "put a", "set a - a 1", "end", "put / 7 a"),
@@ -25,13 +21,17 @@ SAMPLES = (
     text_of("while 1"),
     text_of("# \0 \xff", "put \xff"),
     text_of("put" + " !" * 58 + " 1"),
+    text_of(*["if 1"] * 40, *["end"] * 40),
     text_of("if 1") * 3000,
     text_of("proc A a b c d") * 1000,
+    text_of("proc A a b c d", "end") + text_of("do A 1 -1 a b") * 1168,
     [33, 32] * 8192,
     [97] * 16384,
     [255] * 16384,
     [10] * 16385,
 )
+
+CALLS = [(call, (text,)) for text in TEXTS for call in (check, compile_text)]
 
 
 def refuse(*arguments, **named):
@@ -45,35 +45,49 @@ class Kept(list):
     __setitem__ = __delitem__ = __iadd__ = __imul__ = refuse
 
 
+def kept(arguments):
+    return [Kept(argument) if isinstance(argument, list) else argument for argument in arguments]
+
+
+def copied(arguments):
+    return [list(argument) if isinstance(argument, list) else argument for argument in arguments]
+
+
+def answers(calls):
+    return [call(*arguments) for call, arguments in calls]
+
+
 class Manners(unittest.TestCase):
-    def test_the_answer_is_a_list_of_one_whole_number(self):
-        for text in SAMPLES:
-            answer = check(text)
+    def test_the_answer_is_a_list_of_whole_numbers(self):
+        for answer in answers(CALLS):
             self.assertIs(type(answer), list)
-            self.assertEqual([type(number) for number in answer], [int])
+            self.assertEqual({type(number) for number in answer} | {int}, {int})
 
     def test_what_is_handed_in_stays(self):
-        for text in SAMPLES:
-            before = list(text)
-            check(text)
-            self.assertEqual(text, before)
-            self.assertEqual(check(Kept(text)), check(text))
+        for call, arguments in CALLS:
+            before = copied(arguments)
+            answer = call(*arguments)
+            self.assertEqual(list(arguments), before)
+            self.assertEqual(call(*kept(arguments)), answer)
 
     def test_the_answer_is_a_list_of_its_own(self):
-        for text in SAMPLES:
-            answer = check(text)
+        for call, arguments in CALLS:
+            answer = call(*arguments)
             expected = list(answer)
             answer.append(7)
-            self.assertEqual(check(text), expected)
+            answer[0] = 8
+            self.assertEqual(call(*arguments), expected)
 
     def test_nothing_is_kept(self):
-        alone = [check(text) for text in SAMPLES]
-        self.assertEqual([check(text) for text in SAMPLES], alone)
-        self.assertEqual([check(text) for text in reversed(SAMPLES)], alone[::-1])
-        for text, answer in zip(SAMPLES, alone):
-            for other in SAMPLES[:10]:
-                check(other)
-                self.assertEqual(check(text), answer)
+        alone = answers(CALLS)
+        self.assertEqual(answers(CALLS), alone)
+        self.assertEqual(answers(CALLS[::-1]), alone[::-1])
+        small = [pair for pair in CALLS if sum(len(part) for part in pair[1] if isinstance(part, list)) < 1000]
+        for (call, arguments), answer in zip(CALLS, alone):
+            if (call, arguments) in small:
+                for other, others in small:
+                    other(*others)
+                    self.assertEqual(call(*arguments), answer)
 
     def test_a_procedure_of_an_earlier_text_is_not_known(self):
         self.assertEqual(check(text_of("proc A", "end", "do A")), [0])
@@ -87,8 +101,7 @@ class Manners(unittest.TestCase):
         out, err = io.StringIO(), io.StringIO()
         with contextlib.redirect_stdout(out), contextlib.redirect_stderr(err), mock.patch.object(sys, "stdin", None):
             with mock.patch.object(builtins, "open", refuse), mock.patch.object(builtins, "__import__", refuse):
-                for text in SAMPLES:
-                    check(text)
+                answers(CALLS)
         self.assertEqual((out.getvalue(), err.getvalue()), ("", ""))
         self.assertEqual(sorted(sys.modules), modules)
 
@@ -100,11 +113,11 @@ class Manners(unittest.TestCase):
             depth += {"call": 1, "return": -1}.get(event, 0)
             deepest = max(deepest, depth)
 
-        for text in SAMPLES:
+        for call, arguments in CALLS:
             depth = 0
             sys.setprofile(watch)
             try:
-                check(text)
+                call(*arguments)
             finally:
                 sys.setprofile(None)
         self.assertLess(deepest, 20)
