@@ -1,8 +1,11 @@
 """The calls on texts of the language; each stands by itself."""
 
+from linewords.arithmetic import in_range
 from linewords.compiler import code_of
 from linewords.lines import first_wrong_line
+from linewords.meaning import Run
 from linewords.programs import program_of
+from linewords.standings import MOST_STEPS
 
 MOST_BYTES = 16384
 
@@ -17,3 +20,13 @@ def compile_text(text):
     if check(text) != [0]:
         return [-1]
     return [0] + code_of(program_of(text))
+
+
+def mean(n, text, given):
+    if n > MOST_STEPS or not all([in_range(number) for number in given]):
+        return [-3]
+    if check(text) != [0]:
+        return [-9]
+    run = Run(program_of(text), given)
+    run.run_lines(n)
+    return run.told() + run.out

@@ -109,3 +109,50 @@ class Maker:
         blank = self.random.choice([" ", "\t", "\r", " \r", "\t "])
         text = "\n".join(row.replace(" ", blank) for row in rows)
         return [ord(sign) for sign in text + self.random.choice(["", "\n", " ", "\n\n"])]
+
+
+class RunMaker(Maker):
+    """Makes right texts that are worth running: loops that mostly end, procedures, faults that don't come at once."""
+
+    def expression(self, depth=0):
+        pick = self.random.random()
+        if depth > 3 or pick < 0.6:
+            small = ["0", "1", "2", "-1", "3", "-7"]
+            large = ["9" * 18, "-" + "9" * 18]
+            return self.random.choice(list("abczabcz") + small + (large if pick < 0.05 else []))
+        if pick < 0.67:
+            return "! " + self.expression(depth + 1)
+        sign = self.random.choice("++--**/%<=")
+        return f"{sign} {self.expression(depth + 1)} {self.expression(depth + 1)}"
+
+    def plain(self, procedures):
+        row = super().plain(procedures)
+        if row == "stop" and self.random.random() < 0.8:
+            return "put a"
+        return row
+
+    def loop(self, procedures, depth):
+        letter = self.random.choice("abcz")
+        head = [f"set {letter} {self.random.randrange(1, 5)}", "while " + letter, f"set {letter} - {letter} 1"]
+        return head + self.block(procedures, depth + 1) + ["end"]
+
+    def block(self, procedures, depth):
+        rows = []
+        for _ in range(self.random.randrange(1, 5)):
+            pick = self.random.random()
+            if depth < 4 and pick < 0.15:
+                rows += self.loop(procedures, depth)
+            elif depth < 4 and pick < 0.3:
+                rows += ["if " + self.expression()] + self.block(procedures, depth + 1)
+                rows += ["else"] + self.block(procedures, depth + 1) if self.random.random() < 0.5 else []
+                rows.append("end")
+            elif depth < 4 and pick < 0.33:
+                rows += ["while " + self.expression()] + self.block(procedures, depth + 1) + ["end"]
+            else:
+                rows.append(self.plain(procedures))
+        return rows
+
+    def given(self, most):
+        small = list(range(-9, 10))
+        edges = [LEAST, LEAST + 1, MOST, MOST - 1]
+        return [self.random.choice(self.random.choice([small, small, small, edges])) for _ in range(most)]

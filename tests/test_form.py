@@ -97,10 +97,19 @@ def called_names(tree):
     return {id(node.func): node for node in ast.walk(tree) if isinstance(node, ast.Call)}
 
 
+def package_methods():
+    found = set()
+    for path in PACKAGE.glob("*.py"):
+        for node in ast.parse(path.read_text(encoding="utf-8")).body:
+            if isinstance(node, ast.ClassDef):
+                found |= {part.name for part in node.body if isinstance(part, ast.FunctionDef)}
+    return found
+
+
 def names(tree):
     """L8, L12, L15, L17, L25: names, methods and what is called."""
     called = called_names(tree)
-    own = {node.name for node in ast.walk(tree) if isinstance(node, (ast.FunctionDef, ast.ClassDef))}
+    own = package_methods()
     for node in ast.walk(tree):
         name = getattr(node, "id", None) or getattr(node, "attr", None) or getattr(node, "arg", None)
         if isinstance(node, (ast.FunctionDef, ast.ClassDef)):

@@ -8,7 +8,7 @@ import unittest
 from unittest import mock
 
 from helpers import text_of
-from linewords.texts import check, compile_text
+from linewords.texts import check, compile_text, mean
 
 TEXTS = (
     [],
@@ -32,6 +32,13 @@ TEXTS = (
 )
 
 CALLS = [(call, (text,)) for text in TEXTS for call in (check, compile_text)]
+RUNS = ((0, []), (50, [3, -1]), (20001, []), (9, [2 ** 63]))
+CALLS += [(mean, (n, text, given)) for text in TEXTS for n, given in RUNS]
+CALLS += [
+    (mean, (20000, text_of("proc A x", "if x", "do A - x 1", "end", "put < x 3", "end", "do A 199"), [1])),
+    (mean, (20000, text_of("while 1", "get a", "put a", "end"), list(range(5000)))),
+    (mean, (3000, text_of("while 1", "put" + " +" * 29 + " a" * 30, "end"), [])),
+]
 
 
 def refuse(*arguments, **named):
