@@ -2,6 +2,7 @@
 
 from linewords.arithmetic import in_range
 from linewords.compiler import code_of
+from linewords.instructions import instruction_at, spelled
 from linewords.lines import first_wrong_line
 from linewords.meaning import Run
 from linewords.programs import program_of
@@ -30,3 +31,10 @@ def mean(n, text, given):
     run = Run(program_of(text), given)
     run.run_lines(n)
     return run.told() + run.out
+
+
+def show(at, code):
+    instruction = instruction_at(code, at)
+    if instruction is None:
+        return [0]
+    return [instruction.size] + [ord(sign) for sign in spelled(instruction)]

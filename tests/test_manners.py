@@ -7,8 +7,8 @@ import sys
 import unittest
 from unittest import mock
 
-from helpers import text_of
-from linewords.texts import check, compile_text, mean
+from helpers import NAMES, text_of
+from linewords.texts import check, compile_text, mean, show
 
 TEXTS = (
     [],
@@ -39,6 +39,8 @@ CALLS += [
     (mean, (20000, text_of("while 1", "get a", "put a", "end"), list(range(5000)))),
     (mean, (3000, text_of("while 1", "put" + " +" * 29 + " a" * 30, "end"), [])),
 ]
+CALLS += [(show, (at, part)) for part in ([], [1] * 20000, list(range(256))) for at in (0, 7, 19999, 4294967295)]
+CALLS += [(show, (0, [number] + [255] * 8)) for number in range(len(NAMES) + 1)]
 
 
 def refuse(*arguments, **named):
