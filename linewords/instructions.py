@@ -75,7 +75,3 @@ def instruction_at(code, at):
     if number == PUSH and operands[0] >= FIRST_BELOW_ZERO:
         operands[0] = operands[0] - PUSH_MODULUS
     return Instruction(number, operands)
-
-
-def spelled(instruction):
-    return " ".join([NAMES[instruction.number]] + [str(operand) for operand in instruction.operands])

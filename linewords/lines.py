@@ -7,6 +7,8 @@ LINE_FEED = 10
 BLANKS = (32, 9, 13)
 HASH = 35
 MINUS = 45
+ZERO = 48
+NINE = 57
 
 MOST_WORDS = 60
 MOST_DIGITS = 18
@@ -65,17 +67,22 @@ def is_procedure(word):
     return len(word) == 1 and 65 <= word[0] <= 90
 
 
+def are_digits(signs):
+    return len(signs) > 0 and all([ZERO <= sign <= NINE for sign in signs])
+
+
 def is_number(word):
     digits = word[1:] if word[0] == MINUS else word
-    return 1 <= len(digits) <= MOST_DIGITS and all([48 <= digit <= 57 for digit in digits])
+    return len(digits) <= MOST_DIGITS and are_digits(digits)
 
 
+# Of digits, perhaps with a minus before them.
 def number_value(word):
     value = 0
-    for digit in word:
-        if digit != MINUS:
-            value = value * 10 + digit - 48
-    return -value if word[0] == MINUS else value
+    for sign in word:
+        if sign != MINUS:
+            value = value * 10 + sign - ZERO
+    return -value if MINUS in word else value
 
 
 # -1 if no expression begins with the word.

@@ -2,10 +2,11 @@
 
 from linewords.arithmetic import in_range
 from linewords.compiler import code_of
-from linewords.instructions import instruction_at, spelled
+from linewords.instructions import bytes_of, instruction_at
 from linewords.lines import first_wrong_line
 from linewords.meaning import Run
 from linewords.programs import program_of
+from linewords.spelling import instruction_of, spelled
 from linewords.standings import MOST_STEPS
 
 MOST_BYTES = 16384
@@ -38,3 +39,10 @@ def show(at, code):
     if instruction is None:
         return [0]
     return [instruction.size] + [ord(sign) for sign in spelled(instruction)]
+
+
+def asm(text):
+    instruction = instruction_of(text)
+    if instruction is None:
+        return [-1]
+    return [instruction.size] + bytes_of(instruction)

@@ -8,7 +8,7 @@ import unittest
 from unittest import mock
 
 from helpers import NAMES, text_of
-from linewords.texts import check, compile_text, mean, show
+from linewords.texts import asm, check, compile_text, mean, show
 
 TEXTS = (
     [],
@@ -41,6 +41,8 @@ CALLS += [
 ]
 CALLS += [(show, (at, part)) for part in ([], [1] * 20000, list(range(256))) for at in (0, 7, 19999, 4294967295)]
 CALLS += [(show, (0, [number] + [255] * 8)) for number in range(len(NAMES) + 1)]
+CALLS += [(asm, (text_of(row),)) for row in ("push -1", "call 7 8", "load 256", "", "halt", "push " + "0" * 16000)]
+CALLS += [(asm, ([byte, 32] * 8250,)) for byte in (0, 32, 49, 255)]
 
 
 def refuse(*arguments, **named):
