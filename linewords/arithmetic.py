@@ -1,7 +1,7 @@
 """The numbers that the language and the machine have, and the operations on them."""
 
 from linewords.instructions import ADD, DIV, MOD
-from linewords.standings import BY_ZERO, GOES_ON, OUT_OF_RANGE
+from linewords.runs import BY_ZERO, GOES_ON, OUT_OF_RANGE
 
 LEAST_NUMBER = -9223372036854775808
 MOST_NUMBER = 9223372036854775807

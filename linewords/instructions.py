@@ -29,7 +29,7 @@ WIDTHS = (
 )
 
 
-# Push's operand from here on stands for a number below 0: they are 2 ** 64 apart.
+# Push's operand lies modulo the second; from the first on it stands for a number below 0.
 FIRST_BELOW_ZERO = 9223372036854775808
 PUSH_MODULUS = 18446744073709551616
 

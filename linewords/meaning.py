@@ -2,15 +2,9 @@
 
 from linewords.arithmetic import inverse, operation_result, operation_standing
 from linewords.instructions import LOAD, LOADL, NOT, PUSH, STOREL
-from linewords.standings import ENDED, GOES_ON, MOST_CALLS, TOO_MANY_CALLS, WAITING, standing_and_line
+from linewords.runs import ENDED, GOES_ON, MOST_CALLS, TOO_MANY_CALLS, WAITING, Call, standing_and_line
 
 LETTERS = 26
-
-
-class Call:
-    def __init__(self, back, own):
-        self.back = back
-        self.own = own
 
 
 class Run:
@@ -20,7 +14,7 @@ class Run:
         self.taken = 0
         self.at = 0
         self.shared = [0] * LETTERS
-        # Those that have not come back yet, the latest last.
+        # The latest last.
         self.calls = []
         self.out = []
         # What the next line's expressions come to.

@@ -6,8 +6,8 @@ from linewords.instructions import bytes_of, instruction_at
 from linewords.lines import first_wrong_line
 from linewords.meaning import Run
 from linewords.programs import program_of
+from linewords.runs import MOST_STEPS
 from linewords.spelling import instruction_of, spelled
-from linewords.standings import MOST_STEPS
 
 MOST_BYTES = 16384
 

@@ -1,7 +1,9 @@
-"""What several tests need: texts by their rows, code by its words, and a maker of texts."""
+"""What several tests need: texts by their rows, code by its words, calls by their names, and makers of texts."""
 
 import random
 import struct
+
+from linewords.machine import answers
 
 NAMES = "halt push load store loadl storel add sub mul div mod lt eq not jmp jz call ret put get line".split()
 LAYOUTS = {"push": "<q", "load": "<B", "store": "<B", "loadl": "<B", "storel": "<B", "jmp": "<I", "jz": "<I"}
@@ -21,13 +23,46 @@ def text_without_last_feed(*rows):
 
 
 def code(*rows):
-    """The bytes of instructions that are written as words; a row may hold several, with commas between."""
+    """The bytes of instructions that are written as words; a row may hold several, with commas between.
+
+    `here: halt` gives the place of the halt a name, which `jmp here` may use.
+    """
+    parts = [written.split() for row in rows for written in row.split(",")]
+    places = {}
+    at = 0
+    for words in parts:
+        while words[0].endswith(":"):
+            places[words.pop(0)[:-1]] = at
+        at += 1 + struct.calcsize(LAYOUTS.get(words[0], "<"))
     found = []
-    for row in rows:
-        for written in row.split(","):
-            name, *operands = written.split()
-            found.append(NAMES.index(name))
-            found += struct.pack(LAYOUTS.get(name, "<"), *map(int, operands))
+    for name, *operands in parts:
+        found.append(NAMES.index(name))
+        found += struct.pack(LAYOUTS.get(name, "<"), *[places[word] if word in places else int(word) for word in operands])
+    return found
+
+
+def load(made):
+    return [4, len(made)] + made
+
+
+def give(*given):
+    return [5, len(given)] + list(given)
+
+
+def go(n=20000, cap=4294967295):
+    return [6, n, cap]
+
+
+STATE = [7]
+
+
+def answers_to(*calls):
+    """The answers to the calls, each by itself."""
+    left = answers([number for call in calls for number in call])
+    found = []
+    while left:
+        found.append(left[1:1 + left[0]])
+        left = left[1 + left[0]:]
     return found
 
 

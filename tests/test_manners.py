@@ -7,7 +7,8 @@ import sys
 import unittest
 from unittest import mock
 
-from helpers import NAMES, text_of
+from helpers import NAMES, STATE, code, give, go, load, text_of
+from linewords.machine import answers as machine_answers
 from linewords.texts import asm, check, compile_text, mean, show
 
 TEXTS = (
@@ -43,6 +44,18 @@ CALLS += [(show, (at, part)) for part in ([], [1] * 20000, list(range(256))) for
 CALLS += [(show, (0, [number] + [255] * 8)) for number in range(len(NAMES) + 1)]
 CALLS += [(asm, (text_of(row),)) for row in ("push -1", "call 7 8", "load 256", "", "halt", "push " + "0" * 16000)]
 CALLS += [(asm, ([byte, 32] * 8250,)) for byte in (0, 32, 49, 255)]
+CALLS += [
+    (machine_answers, (calls,))
+    for calls in (
+        [],
+        STATE + go() + give(1),
+        load(code("again: get, put, jmp again")) + give(3, 4) + go() + STATE + give(2 ** 63) + go(20001) + STATE,
+        load(code("push 5, call deep 1, deep: loadl 0, push 1, add, storel 0, loadl 0, put, loadl 0, call deep 1")) + go(),
+        load(code("push 1, jmp 0")) + go() + STATE + load(code("line 7, push 1, push 0, div")) + go() + STATE,
+        load([255] * 15990) + go() + STATE,
+        load(code("push 3, put, line 4")) * 100 + (go(2, 1) + STATE) * 40,
+    )
+]
 
 
 def refuse(*arguments, **named):

@@ -1,5 +1,6 @@
-"""How a run stands: told of its next line or instruction, by the language and by the machine alike."""
+"""What a run of lines and a run of instructions have alike: how they stand, their calls and their bounds."""
 
+# How a run stands, told of its next line or instruction.
 ENDED = 0
 OUT_OF_RANGE = 1
 BY_ZERO = 2
@@ -11,6 +12,13 @@ GOES_ON = 7
 
 MOST_CALLS = 200
 MOST_STEPS = 20000
+
+
+# One that has not come back yet.
+class Call:
+    def __init__(self, back, own):
+        self.back = back
+        self.own = own
 
 
 # The line is told only where something goes wrong.
