@@ -28,7 +28,6 @@ WIDTHS = (
     (), (8,), (1,), (1,), (1,), (1,), (), (), (), (), (), (), (), (), (4,), (4,), (4, 1), (), (), (), (4,),
 )
 
-
 # Push's operand lies modulo the second; from the first on it stands for a number below 0.
 FIRST_BELOW_ZERO = 9223372036854775808
 PUSH_MODULUS = 18446744073709551616

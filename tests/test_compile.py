@@ -46,7 +46,7 @@ class Lines(CompileCase):
         self.assertEqual(compile_text([]), [0, 0])
 
     def test_lines_without_code(self):
-        for rows in ([""], [" \t\r"], ["#"], ["# put 1"], ["", "#", " "]):
+        for rows in ([""], [" \t\r"], ["#"], ["# put 1"], ["", "#", " "], ["# +"], ["# / 1 0", "#end", "#proc A"]):
             self.makes(rows)
 
     def test_set(self):

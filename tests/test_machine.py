@@ -5,6 +5,7 @@ import unittest
 
 from helpers import LEAST, MOST, NAMES, STATE, answers_to, code, give, go, load
 from linewords.machine import answers
+from linewords.processor import Machine
 
 FULL = ["push 7"] * 1024
 
@@ -405,6 +406,31 @@ class Arithmetic(MachineCase):
     def test_a_fault_takes_nothing_off(self):
         made = load(code("push 1, push 0, div, put"))
         self.answered([[0], [0], [2, 0]] + [[0], [2, 0]] * 5, made, go(), STATE, *[go(), STATE] * 5)
+
+
+class NothingChanges(unittest.TestCase):
+    def kept(self, machine):
+        calls = [(call.back, list(call.own)) for call in machine.calls]
+        return machine.at, list(machine.stack), list(machine.shared), calls, machine.line, list(machine.waiting)
+
+    def test_what_cannot_be_carried_out(self):
+        deep = [f"c{number}: call c{number + 1} 0" for number in range(200)]
+        for rows, standing in (
+            (["halt"], 0), (["push 5", f"push {MOST}, push 1, add"], 1), ([f"push {LEAST}, push -1, div"], 1),
+            (["push 5, push 0, div"], 2), (["push 5, push 0, mod"], 2), ([*deep, "c200: push 1, call 0 1"], 3),
+            (["ret"], 4), (["put"], 4), (["push 1, add"], 4), (["store 0"], 4), (["jz 0"], 4), (["not"], 4),
+            (["push 1, storel 0"], 4), (["push 1, call 0 2"], 4), (["push 3, call c 1, c: push 1, storel 1"], 4),
+            ([*FULL, "push 1"], 5), ([*FULL, "load 0"], 5), ([*FULL, "get"], 5), (["get, store 1, get, get"], 6),
+        ):
+            machine = Machine(code("line 9, push 8, store 4", *rows))
+            machine.waiting.extend([1, 2] if standing != 6 else [1])
+            machine.go(20000, 9)
+            before = self.kept(machine)
+            for _ in range(3):
+                self.assertEqual(machine.told(), [standing, 9 if 0 < standing < 6 else 0], rows[-2:])
+                self.assertEqual(self.kept(machine), before, rows[-2:])
+                machine.go(20000, 9)
+                self.assertEqual((self.kept(machine), machine.out), (before, []), rows[-2:])
 
 
 class SharedNumbers(MachineCase):

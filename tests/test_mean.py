@@ -160,6 +160,9 @@ class Standing(MeanCase):
         self.assertEqual(mean(1, text_of("put 1", ""), []), [7, 0, 1])
         self.assertEqual(mean(1, text_of("put 1") + [32], []), [7, 0, 1])
 
+    def test_a_line_that_does_nothing_works_nothing_out(self):
+        self.ends([1], ["# / 1 0", "put 1", "# +", "#stop", "# get a", "#proc A", "# do A / 1 0", "#end"])
+
     def test_stop_within_a_procedure(self):
         self.ends([1], ["do A", "put 2", "proc A", "put 1", "stop", "end"])
         self.ends([1], ["proc A", "if 1", "put 1", "stop", "end", "end", "while 1", "do A", "end"])
